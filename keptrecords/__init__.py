@@ -1,0 +1,1 @@
+"""What may be kept of people, and for how long."""
